@@ -1,0 +1,1 @@
+"""Panelplace: couples placed by a panel by the first place that most of it grants."""
