@@ -7,7 +7,8 @@ import subprocess
 import sys
 import unittest
 
-from panelplace import cards, names
+from helper import only, refusal_of
+from panelplace import cards, names, order, parting, sheet, tally
 
 ROOT = pathlib.Path(__file__).resolve().parent.parent
 
@@ -18,17 +19,62 @@ ARGUMENTS = [
     (cards.mark_on, ["card", "couple"]),
     (cards.without_couple, ["card", "couple"]),
     (cards.one_up, ["card", "couple"]),
+    (tally.majority_of, ["many"]),
+    (tally.marks_of, ["cards", "couple"]),
+    (tally.granted, ["marks", "number"]),
+    (tally.granted_sum, ["marks", "number"]),
+    (tally.first_number, ["marks"]),
+    (tally.ladder_of, ["marks", "last"]),
+    (order.is_ahead, ["one", "other"]),
+    (order.places_of, ["cards", "couples"]),
+    (order.ranking_of, ["cards", "couples"]),
+    (parting.parting_of, ["one", "other"]),
+    (parting.partings_of, ["cards", "couples"]),
+    (sheet.Sheet, ["couples", "judges"]),
+    (sheet.Sheet.hand_in, ["self", "judge", "card"]),
+    (sheet.Sheet.strike, ["self", "couple"]),
+    (sheet.Sheet.seal, ["self"]),
+    (sheet.Sheet.couples, ["self"]),
+    (sheet.Sheet.struck, ["self"]),
+    (sheet.Sheet.judges, ["self"]),
+    (sheet.Sheet.handed, ["self"]),
+    (sheet.Sheet.cards, ["self"]),
+    (sheet.Sheet.card_of, ["self", "judge"]),
+    (sheet.Sheet.taken, ["self"]),
+    (sheet.Sheet.is_sealed, ["self"]),
 ]
 
 ASK_ALL = """
-from panelplace import cards, names
+from panelplace import cards, names, order, parting, sheet, tally
 print(names.good_couples([3, 1, 2]), names.good_couples([3, 1, 3]))
 print(names.good_judges(["cleo", "bo"]), names.good_judges(["bo", "bo"]))
 print(cards.whole_card([3, 1, 2], [1, 2, 3]), cards.mark_on([3, 1, 2], 1))
 print(cards.without_couple([3, 1, 2], 1), cards.one_up([3, 1, 2], 2))
+three = [[3, 1, 2], [1, 3, 2], [3, 2, 1]]
+print(tally.majority_of(3), tally.marks_of(three, 1), tally.granted([2, 1, 3], 2), tally.granted_sum([2, 1, 3], 2))
+print(tally.first_number([2, 1, 3]), tally.ladder_of([2, 1, 3], 2))
+print(order.is_ahead([1, 2, 1], [2, 1, 3]), order.places_of(three, [1, 2, 3]), order.ranking_of(three, [1, 2, 3]))
+print(parting.parting_of([1, 2, 1], [2, 1, 3]), parting.partings_of(three, [1, 2, 3]))
+one = sheet.Sheet([3, 1, 2], ["cleo", "bo", "anna"])
+one.hand_in("anna", [3, 1, 2])
+one.hand_in("cleo", [1, 2, 3])
+one.strike(1)
+print(one.couples(), one.struck(), one.judges(), one.handed(), one.cards(), one.card_of("anna"), one.taken())
+one.seal()
+print(one.is_sealed())
 """
 
-TOLD = "True False\nTrue False\nTrue 2\n[3, 2] [3, 2, 1]\n"
+TOLD = """True False
+True False
+True 2
+[3, 2] [3, 2, 1]
+2 [2, 1, 3] 2 3
+2 [(1, 1), (2, 3)]
+True [2, 3, 1] [(1, 3), (2, 1), (3, 2)]
+(1, 'half') [(3, 1, 1, 'half'), (1, 2, 2, 'half')]
+[3, 2] [1] ['cleo', 'bo', 'anna'] ['cleo', 'anna'] [[2, 3], [3, 2]] [3, 2] 2
+True
+"""
 
 
 class Interface(unittest.TestCase):
@@ -47,6 +93,20 @@ class Interface(unittest.TestCase):
         self.assertIs(type(cards.mark_on([1], 1)), int)
         self.assertIs(type(cards.without_couple([1, 2], 1)), list)
         self.assertIs(type(cards.one_up([1, 2], 2)), list)
+
+    def test_the_counts_and_the_order_are_of_the_kinds_told(self):
+        for number in (tally.majority_of(3), tally.granted([], 2), tally.granted([1], 2), tally.granted_sum([], 2),
+                       tally.granted_sum([1], 2), tally.first_number([1]), order.places_of([[5]], [5])[0]):
+            self.assertIs(type(number), int)
+        two = [[5, 6]]
+        for rows in (tally.ladder_of([1], 2), order.ranking_of(two, [5, 6]), parting.partings_of(two, [5, 6])):
+            self.assertIs(type(rows), list)
+            for row in rows:
+                self.assertIs(type(row), tuple)
+        for answer in (tally.marks_of([], 5), tally.ladder_of([], 0), order.places_of(two, [5, 6])):
+            self.assertIs(type(answer), list)
+        self.assertIs(type(order.is_ahead([1], [2])), bool)
+        self.assertIs(type(order.is_ahead([1], [1])), bool)
 
 
 class NothingElseIsUsed(unittest.TestCase):
@@ -73,6 +133,21 @@ class NothingElseIsUsed(unittest.TestCase):
             self.assertIs(names.good_judges(["a", "a"]), False)
             self.assertEqual(cards.one_up([4, 5], 5), [5, 4])
             self.assertEqual(cards.without_couple([4, 5], 5), [4])
+            self.assertEqual(tally.ladder_of([2, 1], 2), [(1, 1), (2, 3)])
+            self.assertEqual(order.ranking_of([[4, 5]], [5, 4]), [(1, 4), (2, 5)])
+            self.assertEqual(parting.partings_of([[4, 5]], [5, 4]), [(4, 5, 1, "half")])
+            self.assertEqual(sheet.Sheet([4, 5], ["a"]).taken(), 0)
+
+
+class NumbersOfAnySize(unittest.TestCase):
+    """Python refuses to write out a number of some thousand figures, so no error may try to."""
+
+    def test_a_refusal_is_of_the_class_told_whatever_the_number(self):
+        one = sheet.Sheet([4, 5], ["bo"])
+        for number in (10 ** 5000, -(10 ** 5000), 10 ** 30, 0, -1):
+            self.assertEqual(refusal_of(sheet.Sheet, [number], ["bo"]), only("BadCouples"))
+            self.assertEqual(refusal_of(one.hand_in, "bo", [4, number]), only("BadCard"))
+            self.assertEqual(refusal_of(one.strike, number), only("UnknownCouple"))
 
 
 class HandedInStays(unittest.TestCase):

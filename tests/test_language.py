@@ -1,6 +1,6 @@
 """The part of LANGUAGE.md that can be read off the package's files: a test for each such rule.
 
-What these tests can't see (L11, L18, L23, L26 and parts of others) is left to whoever reads the code.
+What these tests can't see (L11 and parts of many others) is left to whoever reads the code.
 """
 
 import ast
@@ -33,6 +33,15 @@ NOT_NAMES = """register mro elements open input version_info with_traceback add_
     methodcaller os quit setattr super vars sys format format_map chr""".split()
 NOT_WORDS = """type typing typing_extensions enum Enum IntEnum StrEnum Flag IntFlag Generic Protocol ABC ABCMeta
     namedtuple NamedTuple TypedDict TYPE_CHECKING abstractmethod""".split()
+NOT_VALUES = """items keys values pop update append clear extend insert remove reverse setdefault sort args encode
+    format""".split()
+MAY_BE_VALUES = "count index title find get join lower upper split strip copy add".split()
+KEYWORDS = {
+    "sorted": ["key", "reverse"], "min": ["key", "default"], "max": ["key", "default"], "sum": ["start"],
+    "enumerate": ["start"], "zip": ["strict"],
+}
+WALKED_AT_ONCE = ["zip", "enumerate", "reversed", "range", "items", "keys", "values"]
+WALKERS = "list tuple dict sorted sum any all enumerate zip min max join".split()
 NOT_WITHIN_WORDS = ["dataclass", "overload", "contextmanager"]
 
 
@@ -53,6 +62,27 @@ def bound_names():
     found += [(path, node.arg) for path, node in nodes_of(ast.arg)]
     found += [(path, node.id) for path, node in nodes_of(ast.Name) if isinstance(node.ctx, ast.Store)]
     found += [(path, node.attr) for path, node in nodes_of(ast.Attribute) if isinstance(node.ctx, ast.Store)]
+    return found
+
+
+def called(node):
+    return getattr(node.func, "id", getattr(node.func, "attr", None))
+
+
+def own_methods():
+    return [part.name for path, node in nodes_of(ast.ClassDef) for part in node.body
+            if isinstance(part, ast.FunctionDef)]
+
+
+def own_values():
+    return [node.attr for path, node in nodes_of(ast.Attribute) if isinstance(node.ctx, ast.Store)]
+
+
+def walked_on_the_spot(tree):
+    found = [node.iter for node in ast.walk(tree) if isinstance(node, (ast.For, ast.comprehension))]
+    for node in ast.walk(tree):
+        if isinstance(node, ast.Call) and called(node) in WALKERS:
+            found += node.args if called(node) == "zip" else node.args[:1]
     return found
 
 
@@ -178,6 +208,30 @@ class Form(unittest.TestCase):
             self.assertIsInstance(node.value, ast.Name, (path.name, node.lineno))
             self.assertIsNone(node.format_spec, (path.name, node.lineno))
 
+    def test_an_error_is_made_where_it_is_raised(self):
+        for path, node in nodes_of(ast.Raise):
+            self.assertIsInstance(node.exc, ast.Call, (path.name, node.lineno))
+            self.assertRegex(called(node.exc), r"^[A-Z]", (path.name, node.lineno))
+
+    def test_keywords(self):
+        for path, node in nodes_of(ast.Call):
+            if called(node) in dir(builtins) + METHODS:
+                for keyword in node.keywords:
+                    self.assertIn(keyword.arg, KEYWORDS.get(called(node), []), (path.name, node.lineno))
+
+    def test_what_is_walked_is_walked_on_the_spot(self):
+        for path, tree in trees():
+            spots = walked_on_the_spot(tree)
+            for node in ast.walk(tree):
+                if isinstance(node, ast.Call) and called(node) in WALKED_AT_ONCE:
+                    self.assertIn(node, spots, (path.name, node.lineno))
+
+    def test_a_making_gives_back_nothing(self):
+        for path, node in nodes_of(ast.FunctionDef):
+            if node.name == "__init__":
+                for part in ast.walk(node):
+                    self.assertIsNone(getattr(part, "value", None) if isinstance(part, ast.Return) else None)
+
     def test_is_stands_beside_none_true_and_false_alone(self):
         for path, node in nodes_of(ast.Compare):
             for operator, right in zip(node.ops, node.comparators):
@@ -207,6 +261,32 @@ class Names(unittest.TestCase):
     def test_parameters_and_locals_have_no_name_of_pythons_own(self):
         for path, node in nodes_of(ast.arg):
             self.assertNotIn(node.arg, dir(builtins), (path.name, node.lineno))
+
+    def test_parameters_and_locals_are_called_like_no_class_and_no_import_of_their_file(self):
+        for path, tree in trees():
+            taken = [node.name for node in tree.body if isinstance(node, ast.ClassDef)]
+            for node in tree.body:
+                if isinstance(node, ast.ImportFrom):
+                    taken += [alias.name for alias in node.names]
+            for node in ast.walk(tree):
+                if isinstance(node, ast.arg):
+                    self.assertNotIn(node.arg, taken, path.name)
+                if isinstance(node, ast.Name) and isinstance(node.ctx, ast.Store):
+                    self.assertNotIn(node.id, taken, path.name)
+
+    def test_no_name_is_a_method_and_a_value(self):
+        for path, node in nodes_of(ast.ClassDef):
+            methods = [part.name for part in node.body if isinstance(part, ast.FunctionDef)]
+            self.assertEqual(len(methods), len(set(methods)), node.name)
+        self.assertEqual(set(own_methods()) & set(own_values()), set())
+
+    def test_methods_and_values_have_free_names(self):
+        pythons = [name for kind in (str, int, list, dict, set, bytes) for name in dir(kind)]
+        for name in own_values():
+            self.assertNotIn(name, NOT_VALUES)
+            self.assertTrue(name not in pythons or name in MAY_BE_VALUES, name)
+        for name in own_methods():
+            self.assertTrue(name not in pythons or name in METHODS + TWO_UNDERSCORES + ["add", "discard"], name)
 
     def test_methods_are_the_packages_own_or_listed(self):
         own = [node.name for path, node in nodes_of(ast.FunctionDef)]
