@@ -34,5 +34,9 @@ def place_among(rows, own):
 
 
 def ranking_of(cards, couples):
+    return by_place(places_of(cards, couples), couples)
+
+
+def by_place(places, couples):
     # By place alone, as sorting leaves those that share one in the order of the couples.
-    return sorted(zip(places_of(cards, couples), couples), key=lambda row: row[0])
+    return sorted(zip(places, couples), key=lambda row: row[0])

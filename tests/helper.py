@@ -1,6 +1,15 @@
 """What several of the tests share: mixed lists, the order told in another way, and questions to a sheet."""
 
-from panelplace import errors
+import itertools
+
+from panelplace import asking, errors, table
+from panelplace.sheet import Sheet
+
+JUDGES = ["j" + letter for letter in "abcdefghijklmno"]
+# One dance that several of the tests speak of: its couples, its judges and their cards.
+COUPLES = [17, 4, 230, 9]
+PANEL = ["dora", "bo", "anna"]
+DORA, BO, ANNA = [4, 230, 17, 9], [17, 9, 4, 230], [9, 17, 230, 4]
 
 
 def mixed(things, turn):
@@ -65,17 +74,71 @@ def told(sheet):
         "judges": sheet.judges(),
         "handed": sheet.handed(),
         "cards": sheet.cards(),
-        "card_of": [card_or_refusal(sheet, judge) for judge in sheet.judges() + ["stranger"]],
+        "card_of": [outcome(sheet.card_of, judge) for judge in sheet.judges() + ["stranger"]],
         "taken": sheet.taken(),
         "is_sealed": sheet.is_sealed(),
     }
 
 
-def card_or_refusal(sheet, judge):
+def asked(sheet):
+    """The answers to all questions of panelplace.asking and panelplace.table, refused ones among them."""
+    judges = sheet.judges() + ["stranger"]
+    couples = sheet.couples() + sheet.struck() + [0]
+    return {
+        "places": outcome(asking.places, sheet),
+        "ranking": outcome(asking.ranking, sheet),
+        "firsts": outcome(asking.firsts, sheet),
+        "partings": outcome(asking.partings, sheet),
+        "left_out": [outcome(asking.left_out, sheet, judge) for judge in judges],
+        "deciders": outcome(asking.deciders, sheet),
+        "step_up": [outcome(asking.step_up, sheet, judge, couple) for judge in judges for couple in couples],
+        "table": outcome(table.table, sheet),
+        "table_row": [outcome(table.table_row, sheet, couple) for couple in couples],
+    }
+
+
+def outcome(ask, *handed_in):
+    """What is told, or the name of the error's class."""
     try:
-        return sheet.card_of(judge)
+        return ask(*handed_in)
     except errors.PanelError as error:
         return type(error).__name__
+
+
+def sheet_of(couples, cards, judges=None):
+    """A sheet with these cards in; the judges are called ja, jb and so on if none are told."""
+    judges = judges or JUDGES[:len(cards)]
+    sheet = Sheet(couples, judges)
+    for judge, card in zip(judges, cards):
+        sheet.hand_in(judge, list(card))
+    return sheet
+
+
+def with_none():
+    return Sheet(COUPLES, PANEL)
+
+
+def with_anna():
+    sheet = with_none()
+    sheet.hand_in("anna", ANNA)
+    return sheet
+
+
+def with_two():
+    sheet = with_anna()
+    sheet.hand_in("dora", DORA)
+    return sheet
+
+
+def with_three():
+    sheet = with_two()
+    sheet.hand_in("bo", BO)
+    return sheet
+
+
+def panels(couples, many):
+    """Every panel of so many cards, whatever the order of its judges."""
+    return itertools.combinations_with_replacement(list(itertools.permutations(couples)), many)
 
 
 def refusal_of(deed, *handed_in):

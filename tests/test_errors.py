@@ -23,6 +23,10 @@ class Classes(unittest.TestCase):
         classes = {getattr(errors, name) for name in UNDER_PANEL_ERROR}
         self.assertEqual(len(classes), 12)
 
+    def test_there_is_no_other_class(self):
+        named = [name for name, kind in vars(errors).items() if isinstance(kind, type)]
+        self.assertEqual(sorted(named), sorted(["PanelError"] + UNDER_PANEL_ERROR))
+
     def test_each_is_called_by_its_own_name(self):
         for name in ["PanelError"] + UNDER_PANEL_ERROR:
             self.assertEqual(getattr(errors, name).__name__, name)

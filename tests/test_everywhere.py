@@ -1,4 +1,4 @@
-"""What holds everywhere (points 1 to 3) and the interface, for the modules that are there."""
+"""What holds everywhere (points 1 to 3) and the interface, over the whole program."""
 
 import ast
 import inspect
@@ -7,8 +7,8 @@ import subprocess
 import sys
 import unittest
 
-from helper import only, refusal_of
-from panelplace import cards, names, order, parting, sheet, tally
+from helper import only, refusal_of, sheet_of
+from panelplace import asking, cards, desk, names, order, parting, reading, sheet, table, tally
 
 ROOT = pathlib.Path(__file__).resolve().parent.parent
 
@@ -42,10 +42,22 @@ ARGUMENTS = [
     (sheet.Sheet.card_of, ["self", "judge"]),
     (sheet.Sheet.taken, ["self"]),
     (sheet.Sheet.is_sealed, ["self"]),
+    (asking.places, ["sheet"]),
+    (asking.ranking, ["sheet"]),
+    (asking.firsts, ["sheet"]),
+    (asking.partings, ["sheet"]),
+    (asking.left_out, ["sheet", "judge"]),
+    (asking.deciders, ["sheet"]),
+    (asking.step_up, ["sheet", "judge", "couple"]),
+    (table.table_row, ["sheet", "couple"]),
+    (table.table, ["sheet"]),
+    (reading.read_row, ["row"]),
+    (desk.answer, ["sheet", "row"]),
+    (desk.answers, ["couples", "judges", "rows"]),
 ]
 
 ASK_ALL = """
-from panelplace import cards, names, order, parting, sheet, tally
+from panelplace import asking, cards, desk, names, order, parting, reading, sheet, table, tally
 print(names.good_couples([3, 1, 2]), names.good_couples([3, 1, 3]))
 print(names.good_judges(["cleo", "bo"]), names.good_judges(["bo", "bo"]))
 print(cards.whole_card([3, 1, 2], [1, 2, 3]), cards.mark_on([3, 1, 2], 1))
@@ -60,8 +72,12 @@ one.hand_in("anna", [3, 1, 2])
 one.hand_in("cleo", [1, 2, 3])
 one.strike(1)
 print(one.couples(), one.struck(), one.judges(), one.handed(), one.cards(), one.card_of("anna"), one.taken())
+print(asking.places(one), asking.ranking(one), asking.firsts(one), asking.partings(one))
+print(asking.left_out(one, "cleo"), asking.deciders(one), asking.step_up(one, "anna", 2))
+print(table.table_row(one, 2), table.table(one))
+print(reading.read_row("step anna 2"), desk.answer(one, "step anna 2"), desk.answer(one, "deciders"))
 one.seal()
-print(one.is_sealed())
+print(one.is_sealed(), desk.answers([3, 1], ["bo"], ["card bo 3 1", "places", "seal", "strike 3"]))
 """
 
 TOLD = """True False
@@ -73,7 +89,11 @@ True 2
 True [2, 3, 1] [(1, 3), (2, 1), (3, 2)]
 (1, 'half') [(3, 1, 1, 'half'), (1, 2, 2, 'half')]
 [3, 2] [1] ['cleo', 'bo', 'anna'] ['cleo', 'anna'] [[2, 3], [3, 2]] [3, 2] 2
-True
+[1, 1] [(1, 3), (1, 2)] [3, 2] []
+[1, 2] ['cleo', 'anna'] (3, [2, 1])
+1 2 | 1 2 | 1/1 2/3 ['1 3 | 2 1 | 1/1 2/3', '1 2 | 1 2 | 1/1 2/3']
+('step', 'anna', [2]) 3 | 1:2 2:3 cleo anna
+True ['taken', '1:3 2:1', 'sealed', 'refused: sealed']
 """
 
 
@@ -108,6 +128,20 @@ class Interface(unittest.TestCase):
         self.assertIs(type(order.is_ahead([1], [2])), bool)
         self.assertIs(type(order.is_ahead([1], [1])), bool)
 
+    def test_the_answers_of_a_sheet_are_of_the_kinds_told(self):
+        one = sheet_of([5, 6], [[5, 6], [6, 5], [6, 5]])
+        for numbers in (asking.places(one), asking.firsts(one), asking.left_out(one, "jb"),
+                        asking.step_up(one, "ja", 6)[1]):
+            self.assertIs(type(numbers), list)
+            self.assertEqual({type(number) for number in numbers}, {int})
+        for rows in (asking.ranking(one), asking.partings(one)):
+            self.assertIs(type(rows), list)
+            self.assertEqual({type(row) for row in rows}, {tuple})
+        self.assertIs(type(asking.deciders(one)), list)
+        self.assertEqual({type(judge) for judge in asking.deciders(one)}, {str})
+        self.assertIs(type(asking.step_up(one, "ja", 6)), tuple)
+        self.assertIs(type(asking.step_up(one, "ja", 6)[0]), int)
+
 
 class NothingElseIsUsed(unittest.TestCase):
     def test_no_file_draws_on_anything_outside_the_package(self):
@@ -137,6 +171,9 @@ class NothingElseIsUsed(unittest.TestCase):
             self.assertEqual(order.ranking_of([[4, 5]], [5, 4]), [(1, 4), (2, 5)])
             self.assertEqual(parting.partings_of([[4, 5]], [5, 4]), [(4, 5, 1, "half")])
             self.assertEqual(sheet.Sheet([4, 5], ["a"]).taken(), 0)
+            self.assertEqual(reading.read_row("card a 4 5"), ("card", "a", [4, 5]))
+            self.assertEqual(
+                desk.answers([4, 5], ["a"], ["card a 5 4", "seal", "places"]), ["taken", "sealed", "1:5 2:4"])
 
 
 class NumbersOfAnySize(unittest.TestCase):
@@ -148,6 +185,15 @@ class NumbersOfAnySize(unittest.TestCase):
             self.assertEqual(refusal_of(sheet.Sheet, [number], ["bo"]), only("BadCouples"))
             self.assertEqual(refusal_of(one.hand_in, "bo", [4, number]), only("BadCard"))
             self.assertEqual(refusal_of(one.strike, number), only("UnknownCouple"))
+
+    def test_a_question_is_refused_by_the_class_told_whatever_the_number(self):
+        none, one = sheet.Sheet([4, 5], ["ja"]), sheet_of([4, 5], [[5, 4]])
+        for number in (10 ** 5000, -(10 ** 5000), 10 ** 30, 1000, 0, -1):
+            self.assertEqual(refusal_of(asking.step_up, one, "ja", number), only("UnknownCouple"))
+            self.assertEqual(refusal_of(asking.step_up, none, "ja", number), only("NoCard"))
+            self.assertEqual(refusal_of(table.table_row, one, number), only("UnknownCouple"))
+            self.assertEqual(refusal_of(table.table_row, none, number), only("TooFewCards"))
+            self.assertEqual(refusal_of(desk.answers, [number], ["ja"], ["seal"]), only("BadCouples"))
 
 
 class HandedInStays(unittest.TestCase):

@@ -191,6 +191,7 @@ class Form(unittest.TestCase):
             self.assertIsNotNone(node.type, (path.name, node.lineno))
         for path, node in nodes_of(ast.Assign):
             self.assertEqual(len(node.targets), 1, (path.name, node.lineno))
+            self.assertNotIsInstance(node.targets[0], (ast.Tuple, ast.List), (path.name, node.lineno))
 
     def test_comprehensions_have_one_for_and_at_most_one_if(self):
         for path, node in nodes_of(ast.ListComp):
@@ -207,6 +208,11 @@ class Form(unittest.TestCase):
         for path, node in nodes_of(ast.FormattedValue):
             self.assertIsInstance(node.value, ast.Name, (path.name, node.lineno))
             self.assertIsNone(node.format_spec, (path.name, node.lineno))
+
+    def test_only_the_packages_own_errors_are_taken(self):
+        own = top_names(ast.parse((PACKAGE / "errors.py").read_text()))
+        for path, node in nodes_of(ast.ExceptHandler):
+            self.assertIn(getattr(node.type, "id", None), own, (path.name, node.lineno))
 
     def test_an_error_is_made_where_it_is_raised(self):
         for path, node in nodes_of(ast.Raise):
